@@ -1,0 +1,1 @@
+"""Warmswitch: a thermostat with two thresholds."""
