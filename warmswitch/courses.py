@@ -4,7 +4,7 @@ Nothing here is limited: ticks, temperatures and thresholds are of any size. Whe
 extreme is to be found above, the sign is 1; where it is to be found below, the sign is -1.
 """
 
-from math import gcd
+from warmswitch.timelines import HeatingSum, Timeline
 
 
 class Drift:
@@ -110,8 +110,7 @@ def heater_state(degrees, low, high, before):
 class Course:
     """All ticks of a room, as stretches with numbers from 0.
 
-    If the course repeats, the last stretch that is kept begins like the one with the number
-    `_back`, which is None otherwise: then the last stretch has no end.
+    If the course repeats, the last stretch that is kept begins like an earlier one.
     """
 
     # After tick 0, the heater goes on with a temperature at most 100 below the low threshold, in
@@ -121,29 +120,27 @@ class Course:
         self._low = low
         self._high = high
         self._stretches = []
-        self._heated = []
-        self._back = None
         state = heater_state(start, low, high, on)
-        self._follow(Stretch(both_drifts(changes, gain), state, 0, start))
+        back = self._follow(Stretch(both_drifts(changes, gain), state, 0, start))
+        self._timeline = Timeline([stretch.begin for stretch in self._stretches], back)
+        self._heating = self.heating_sum((1,))
 
     def _follow(self, stretch):
-        """Keep this stretch and all that follow, until one begins like an earlier one or has no end."""
+        """Keep this stretch and all that follow, until one begins like an earlier one or has no end.
+
+        Return the number of the earlier one, or None.
+        """
         known = {}
-        heated = 0
         while True:
             number = len(self._stretches)
             self._stretches.append(stretch)
-            self._heated.append(heated)
             state = stretch.begin_state()
             if state in known:
-                self._back = known[state]
-                return
+                return known[state]
             known[state] = number
             end = self._end_of(stretch)
             if end is None:
-                return
-            if stretch.on:
-                heated = heated + end - stretch.begin
+                return None
             stretch = stretch.switched(end)
 
     def _end_of(self, stretch):
@@ -151,63 +148,35 @@ class Course:
             return stretch.first_beyond(self._high, 1)
         return stretch.first_beyond(self._low, -1)
 
-    def _place(self, tick):
-        """Return how often all has been repeated, the stretch's number, and the tick before that."""
-        rounds = 0
-        if self._back is not None and tick >= self._stretches[-1].begin:
-            first = self._stretches[self._back].begin
-            rounds, rest = divmod(tick - first, self._stretches[-1].begin - first)
-            tick = first + rest
-        return rounds, self._number_at(tick), tick
-
-    def _number_at(self, tick):
-        least, greatest = 0, len(self._stretches) - 1
-        while least < greatest:
-            middle = (least + greatest + 1) // 2
-            if self._stretches[middle].begin <= tick:
-                least = middle
-            else:
-                greatest = middle - 1
-        return least
-
     def degrees_in(self, tick):
         """Return the temperature at the beginning of a tick."""
-        place = self._place(tick)
+        place = self._timeline.place(tick)
         return self._stretches[place[1]].degrees_at(place[2])
 
     def on_in(self, tick):
         """Return whether the heater is on in a tick."""
-        place = self._place(tick)
+        place = self._timeline.place(tick)
         return self._stretches[place[1]].on
+
+    def heating_sum(self, amounts):
+        """Return the sums of amounts of ticks, which repeat, over the ticks with heating."""
+        return HeatingSum(self._timeline, self._stretches[0].on, amounts)
 
     def heated_before(self, tick):
         """Return in how many ticks before a tick the heater is on."""
-        rounds, number, place = self._place(tick)
-        stretch = self._stretches[number]
-        heated = self._heated[number]
-        if stretch.on:
-            heated = heated + place - stretch.begin
-        if rounds > 0:
-            heated = heated + rounds * (self._heated[-1] - self._heated[self._back])
-        return heated
+        return self._heating.sum_before(tick)
+
+    def share_of_heating(self):
+        """Return the share of ticks with heating in the long run, in lowest terms."""
+        return self._heating.share()
 
     def begun_until(self, tick):
         """Return how many stretches begin in a tick or before it."""
-        rounds, number, _ = self._place(tick)
-        if rounds > 0:
-            number = number + rounds * (len(self._stretches) - 1 - self._back)
-        return number + 1
+        return self._timeline.begun_until(tick)
 
     def begin_of(self, number):
         """Return the tick in which the stretch with a number begins, or None if there is none."""
-        last = len(self._stretches) - 1
-        if number <= last:
-            return self._stretches[number].begin
-        if self._back is None:
-            return None
-        rounds, rest = divmod(number - self._back, last - self._back)
-        first = self._stretches[self._back].begin
-        return self._stretches[self._back + rest].begin + rounds * (self._stretches[last].begin - first)
+        return self._timeline.begin_of(number)
 
     def kept_stretches(self):
         """Return how many stretches tell all that ever happens."""
@@ -216,27 +185,17 @@ class Course:
     def recurrence(self):
         """Return the first tick from which on all is repeated, and after how many ticks; or None."""
         last = self._stretches[-1]
-        if self._back is None:
+        back = self._timeline.back
+        if back is None:
             ticks = last.level_ticks()
             return None if ticks is None else (last.begin, ticks)
-        first = self._stretches[self._back].begin
-        ticks = last.begin - first
-        if self._back > 0:
+        first = self._stretches[back].begin
+        if back > 0:
             # What leads to the two equal beginnings is equal, too, back to the tick in which the
             # shorter one of the two stretches before them begins.
-            before = first - self._stretches[self._back - 1].begin
+            before = first - self._stretches[back - 1].begin
             first = first - min(before, last.begin - self._stretches[-2].begin)
-        return first, ticks
-
-    def share_of_heating(self):
-        """Return the share of ticks with heating in the long run, in lowest terms."""
-        last = self._stretches[-1]
-        if self._back is None:
-            return (1, 1) if last.on else (0, 1)
-        heated = self._heated[-1] - self._heated[self._back]
-        ticks = last.begin - self._stretches[self._back].begin
-        common = gcd(heated, ticks)
-        return heated // common, ticks // common
+        return first, self._timeline.ticks_of_round()
 
     def extreme(self, sign):
         """Return the most extreme temperature ever, and its first tick, or None if there is none."""

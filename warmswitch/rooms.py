@@ -16,12 +16,25 @@ def check_gain(gain):
         raise InvalidHeater("the gain is out of range")
 
 
+def check_ticks(first, last, most):
+    """Raise InvalidNumber unless there are ticks from the first to the last one, and not too many."""
+    check_number(first, 0, MOST_TICKS)
+    check_number(last, 0, MOST_TICKS)
+    if not 1 <= last - first + 1 <= most:
+        raise InvalidNumber("there are no ticks or too many")
+
+
+def can_be_thresholds(low, high):
+    """Return whether two thresholds are in range and in order."""
+    return -MOST_DEGREES <= low <= high <= MOST_DEGREES
+
+
 class Heater:
     """A heater with its two thresholds."""
 
     def __init__(self, gain, low, high):
         check_gain(gain)
-        if not -MOST_DEGREES <= low <= high <= MOST_DEGREES:
+        if not can_be_thresholds(low, high):
             raise InvalidHeater("the thresholds are out of range or out of order")
         self._gain = gain
         self._low = low
@@ -121,12 +134,14 @@ class Room:
         check_number(number, 1, MOST_TICKS)
         return self.course.begin_of(number - 1 + self._unswitched)
 
+    def switching_from(self, tick):
+        """Return the first tick, from a tick on, in which the heater goes on or off, or None."""
+        number = self._unswitched if tick == 0 else self.course.begun_until(tick - 1)
+        return self.course.begin_of(number)
+
     def temperatures(self, first, last):
         """Yield the temperatures at the beginning of all ticks from the first to the last one."""
-        check_number(first, 0, MOST_TICKS)
-        check_number(last, 0, MOST_TICKS)
-        if not 1 <= last - first + 1 <= MOST_TEMPERATURES:
-            raise InvalidNumber("there are no ticks or too many")
+        check_ticks(first, last, MOST_TEMPERATURES)
         for tick in range(first, last + 1):
             yield self.course.degrees_in(tick)
 

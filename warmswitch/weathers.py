@@ -1,8 +1,7 @@
 """Weather: changes of the temperature that repeat."""
 
-from math import lcm
-
 from warmswitch.errors import InvalidWeather, check_number
+from warmswitch.rounds import added_rounds, first_invalid, same_rounds, sum_of_first
 
 MOST_TICKS = 10 ** 18
 
@@ -14,11 +13,9 @@ class Weather:
     MAX_CHANGE = 100
 
     def __init__(self, *changes):
-        for index, change in enumerate(changes):
-            if index >= self.MAX_TICKS or abs(change) > self.MAX_CHANGE:
-                raise InvalidWeather(index)
-        if len(changes) == 0:
-            raise InvalidWeather(0)
+        index = first_invalid(changes, -self.MAX_CHANGE, self.MAX_CHANGE, self.MAX_TICKS)
+        if index is not None:
+            raise InvalidWeather(index)
         self._changes = changes
 
     @classmethod
@@ -44,14 +41,13 @@ class Weather:
     def __call__(self, count):
         """Return the sum of the changes in the first so many ticks."""
         check_number(count, 0, MOST_TICKS)
-        rounds, rest = divmod(count, len(self._changes))
-        return rounds * sum(self._changes) + sum(self._changes[:rest])
+        return sum_of_first(self._changes, count)
 
     def __eq__(self, other):
-        return isinstance(other, Weather) and same_changes(self._changes, other.changes)
+        return isinstance(other, Weather) and same_rounds(self._changes, other.changes)
 
     def __add__(self, other):
-        both = added_changes(self._changes, other.changes)
+        both = added_rounds(self._changes, other.changes)
         return Weather(*both)
 
     def __neg__(self):
@@ -71,15 +67,3 @@ class Weather:
         first = ticks % len(self._changes)
         turned = self._changes[first:] + self._changes[:first]
         return Weather(*turned)
-
-
-def same_changes(one, other):
-    """Return whether two tuples of changes are alike when they repeat."""
-    many = lcm(len(one), len(other))
-    return one * (many // len(one)) == other * (many // len(other))
-
-
-def added_changes(one, other):
-    """Return the sums of two tuples of changes, until both come to their ends together."""
-    many = lcm(len(one), len(other))
-    return [one[tick % len(one)] + other[tick % len(other)] for tick in range(many)]
